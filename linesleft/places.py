@@ -1,0 +1,164 @@
+"""The calls on one object: read from a list of whole numbers, answered in a list of whole numbers."""
+
+from linesleft.ways import FAR, distances, kept_lines, way_between
+
+NO_SUCH = -2
+NOT_BEGUN = -11
+OUT_OF_RANGE = -22
+TOO_MANY = -28
+NONE_THERE = -33
+
+MOST_PLACES = 8
+MOST_LINES = 14
+MOST_LENGTH = 99
+MOST_TIMES = 9
+
+# How many whole numbers stand behind the number of each call; the row of does comes behind these.
+ARGUMENTS = (1, 3, 1, 0, 2, 2, 2, 1, 3, 1, 1, 1, 1, 1, 1, 0, 0, 0)
+DOES = 12
+
+
+def wrong_times(t):
+    return t < 1 or t > MOST_TIMES
+
+
+def told(lines):
+    """How many lines; then of each both places and the length."""
+    answer = [len(lines)]
+    for length, lesser, other in lines:
+        answer.extend([lesser, other, length])
+    return answer
+
+
+def distance_told(size, lines, u, v):
+    """The distance of two places by these lines, or that no way leads there."""
+    far = distances(size, lines, u)[v]
+    if far == FAR:
+        return [NONE_THERE]
+    return [far]
+
+
+class Places:
+    """The places, none ahead of the first begin, and in joined their lines, in order.
+
+    Each call answers a list: a number, then what is told behind it.
+    """
+
+    def __init__(self):
+        self.size = 0
+        self.joined = []
+
+    def lacks(self, u, v):
+        return u >= self.size or v >= self.size
+
+    def begin(self, n):
+        if n < 1 or n > MOST_PLACES:
+            return [OUT_OF_RANGE]
+        self.size = n
+        self.joined = []
+        return [0]
+
+    def line(self, a, b, w):
+        if self.lacks(a, b):
+            return [NO_SUCH]
+        if a == b or w < 1 or w > MOST_LENGTH:
+            return [OUT_OF_RANGE]
+        lesser = min(a, b)
+        other = max(a, b)
+        others = [one for one in self.joined if one[1] != lesser or one[2] != other]
+        if len(others) >= MOST_LINES:
+            return [TOO_MANY]
+        self.joined = sorted(others + [(w, lesser, other)])
+        return [len(self.joined)]
+
+    def cut(self, i):
+        if i >= len(self.joined):
+            return [NO_SUCH]
+        self.joined = self.joined[:i] + self.joined[i + 1:]
+        return [len(self.joined)]
+
+    def lines(self):
+        return told(self.joined)
+
+    def dist(self, u, v):
+        if self.lacks(u, v):
+            return [NO_SUCH]
+        return distance_told(self.size, self.joined, u, v)
+
+    def next_place(self, u, v):
+        if self.lacks(u, v):
+            return [NO_SUCH]
+        if u == v:
+            return [OUT_OF_RANGE]
+        passed = way_between(self.size, self.joined, u, v)
+        if len(passed) == 0:
+            return [NONE_THERE]
+        return [passed[1]]
+
+    def way(self, u, v):
+        if self.lacks(u, v):
+            return [NO_SUCH]
+        passed = way_between(self.size, self.joined, u, v)
+        if len(passed) == 0:
+            return [NONE_THERE]
+        return [len(passed)] + passed
+
+    def kept(self, t):
+        if wrong_times(t):
+            return [OUT_OF_RANGE]
+        return told(kept_lines(self.size, self.joined, t))
+
+    def keptdist(self, t, u, v):
+        if self.lacks(u, v):
+            return [NO_SUCH]
+        if wrong_times(t):
+            return [OUT_OF_RANGE]
+        return distance_told(self.size, kept_lines(self.size, self.joined, t), u, v)
+
+
+def answer_to(held, call):
+    """What the object answers to one call, which is its number and then its arguments."""
+    number = call[0]
+    if number == 0:
+        return held.begin(call[1])
+    if held.size == 0:
+        return [NOT_BEGUN]
+    if number == 1:
+        return held.line(call[1], call[2], call[3])
+    if number == 2:
+        return held.cut(call[1])
+    if number == 3:
+        return held.lines()
+    if number == 4:
+        return held.dist(call[1], call[2])
+    if number == 5:
+        return held.next_place(call[1], call[2])
+    if number == 6:
+        return held.way(call[1], call[2])
+    if number == 7:
+        return held.kept(call[1])
+    if number == 8:
+        return held.keptdist(call[1], call[2], call[3])
+    raise NotImplementedError("this call is not built yet")
+
+
+def end_of_call(calls, at):
+    """Where the call ends that begins at this index: the index of the next one."""
+    end = at + 1 + ARGUMENTS[calls[at]]
+    if calls[at] == DOES:
+        end = end + 1 + calls[end]
+    return end
+
+
+def answers(calls):
+    """For each call, in order, how many numbers are answered; then these."""
+    held = Places()
+    given = []
+    at = 0
+    while at < len(calls):
+        end = end_of_call(calls, at)
+        answer = answer_to(held, calls[at:end])
+        given.append(len(answer))
+        given.extend(answer)
+        at = end
+    return given
