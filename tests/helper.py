@@ -1,5 +1,9 @@
 """What the tests share: calls written by name, answers split call by call, and the document's words done plainly."""
 
+import itertools
+import math
+from fractions import Fraction
+
 from linesleft.places import answers
 
 NUMBERS = {
@@ -9,6 +13,7 @@ NUMBERS = {
 }
 
 MOST = 4294967295
+CHANGES = ("line", "cut", "leave")
 
 
 def flat(calls):
@@ -40,6 +45,8 @@ def split(numbers):
 
 def ask(*calls):
     """The answers to all these calls on a new object."""
+    if len(calls) > 256:
+        raise ValueError("a list has at most 256 calls")
     parts = split(answers(flat(calls)))
     if len(parts) != len(calls):
         raise ValueError("not one answer a call")
@@ -55,8 +62,13 @@ def put(triples):
     return [("line", a, b, w) for a, b, w in triples]
 
 
+def ring_of(size, length):
+    """Calls that begin with so many places and join them all in one ring of lines of this length."""
+    return [("begin", size)] + put([(a, a + 1, length) for a in range(size - 1)] + [(0, size - 1, length)])
+
+
 def triples_of(answer):
-    """The lines that lines or kept tells, as (a, b, w)."""
+    """The lines that lines, kept, fewest or least tells, as (a, b, w)."""
     if len(answer) != 1 + 3 * answer[0]:
         raise ValueError("not three numbers a line")
     return [tuple(answer[at:at + 3]) for at in range(1, len(answer), 3)]
@@ -111,12 +123,48 @@ def rings(triples):
     return found
 
 
+def table(n, triples):
+    """Every distance, each place in turn being let in between; infinite where no way leads."""
+    far = [[0 if u == v else math.inf for v in range(n)] for u in range(n)]
+    for a, b, w in triples:
+        far[a][b] = far[b][a] = w
+    for between in range(n):
+        for u in range(n):
+            for v in range(n):
+                far[u][v] = min(far[u][v], far[u][between] + far[between][v])
+    return far
+
+
+def do_by_the_words(n, triples, chosen, t):
+    whole = table(n, triples)
+    far = table(n, chosen)
+    return all(far[u][v] <= t * whole[u][v] for u, v in itertools.combinations(range(n), 2))
+
+
+def fewest_by_the_words(n, triples, t):
+    for many in range(len(triples) + 1):
+        for chosen in itertools.combinations(triples, many):
+            if do_by_the_words(n, triples, chosen, t):
+                return list(chosen)
+
+
+def lightest_by_the_words(n, triples):
+    piece = list(range(n))
+    chosen = []
+    for a, b, w in triples:
+        if piece[a] != piece[b]:
+            chosen.append((a, b, w))
+            piece = [piece[a] if one == piece[b] else one for one in piece]
+    return chosen
+
+
 class Plain:
     """The object done straight from the words: slow, and written apart from the program."""
 
     def __init__(self):
         self.n = None
         self.lengths = {}
+        self.past = []
 
     def answer(self, call):
         name = call[0]
@@ -124,7 +172,13 @@ class Plain:
             return self.begin(call[1])
         if self.n is None:
             return [-11]
-        return getattr(self, name)(*call[1:])
+        before = dict(self.lengths)
+        answer = getattr(self, name)(*call[1:])
+        if name in CHANGES and answer[0] >= 0:
+            self.past.append(before)
+            if len(self.past) > 10:
+                self.past.pop(0)
+        return answer
 
     def triples(self):
         return in_order([(a, b, w) for (a, b), w in self.lengths.items()])
@@ -134,7 +188,17 @@ class Plain:
             return [-22]
         self.n = n
         self.lengths = {}
+        self.past = []
         return [0]
+
+    def back(self):
+        if not self.past:
+            return [-6]
+        self.lengths = self.past.pop()
+        return [len(self.past)]
+
+    def state(self):
+        return [self.n, len(self.lengths), len(self.past)]
 
     def line(self, a, b, w):
         if a not in range(self.n) or b not in range(self.n):
@@ -195,3 +259,53 @@ class Plain:
         if t not in range(1, 10):
             return [-22]
         return self.dist_by(kept_by_the_words(self.triples(), t), u, v)
+
+    def kept_for(self, t):
+        return kept_by_the_words(self.triples(), t)
+
+    def leave(self, t):
+        if t not in range(1, 10):
+            return [-22]
+        self.lengths = {(a, b): w for a, b, w in self.kept_for(t)}
+        return [len(self.lengths)]
+
+    def keptweight(self, t):
+        if t not in range(1, 10):
+            return [-22]
+        return [sum(w for a, b, w in self.kept_for(t)), sum(self.lengths.values())]
+
+    def worst(self, t):
+        if t not in range(1, 10):
+            return [-22]
+        whole = table(self.n, self.triples())
+        far = table(self.n, self.kept_for(t))
+        pairs = [(u, v) for u in range(self.n) for v in range(self.n) if u < v and whole[u][v] < math.inf]
+        if not pairs:
+            return [-33]
+        most = max(Fraction(far[u][v], whole[u][v]) for u, v in pairs)
+        u, v = [(u, v) for u, v in pairs if Fraction(far[u][v], whole[u][v]) == most][0]
+        return [0, u, v, far[u][v], whole[u][v]]
+
+    def ring(self, t):
+        if t not in range(1, 10):
+            return [-22]
+        found = rings(self.kept_for(t))
+        return [min(len(ring) for ring in found)] if found else [-33]
+
+    def does(self, t, row):
+        if t not in range(1, 10):
+            return [-22]
+        if any(number not in range(len(self.lengths)) for number in row):
+            return [-2]
+        chosen = [self.triples()[number] for number in row]
+        return [1] if do_by_the_words(self.n, self.triples(), chosen, t) else [0]
+
+    def fewest(self, t):
+        if t not in range(1, 10):
+            return [-22]
+        if len(self.lengths) > 10:
+            return [-28]
+        return self.tell(fewest_by_the_words(self.n, self.triples(), t))
+
+    def least(self):
+        return self.tell(lightest_by_the_words(self.n, self.triples()))

@@ -1,10 +1,6 @@
 import unittest
 
-from helper import MOST, ask, last, put, triples_of
-
-
-def ring_of(size, length):
-    return [("begin", size)] + put([(a, a + 1, length) for a in range(size - 1)] + [(0, size - 1, length)])
+from helper import MOST, ask, last, put, ring_of, triples_of
 
 
 class Refused(unittest.TestCase):

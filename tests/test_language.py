@@ -105,6 +105,28 @@ class Names(unittest.TestCase):
                 if isinstance(found, str) and found not in UNDERSCORED:
                     self.assertFalse(found.startswith("_"), (name, found))
 
+    def test_no_local_is_called_like_an_import_or_a_class(self):
+        for name, text in texts().items():
+            tree = ast.parse(text)
+            taken = [each.name for each in tree.body if isinstance(each, ast.ClassDef)]
+            taken += [each.name for row in tree.body if isinstance(row, ast.ImportFrom) for each in row.names]
+            self.assertEqual(len(taken), len(set(taken)), name)
+            for node in ast.walk(tree):
+                if isinstance(node, ast.Name) and isinstance(node.ctx, ast.Store):
+                    self.assertNotIn(node.id, taken, name)
+                if isinstance(node, ast.arg):
+                    self.assertNotIn(node.arg, taken, name)
+
+    def test_no_name_is_a_method_and_a_value(self):
+        methods = [each.name for name, node in nodes() if isinstance(node, ast.ClassDef)
+                   for each in node.body if isinstance(each, ast.FunctionDef)]
+        self.assertEqual(len(methods), len(set(methods)))
+        for name, node in nodes():
+            if isinstance(node, ast.Attribute) and isinstance(node.ctx, ast.Store):
+                self.assertNotIn(node.attr, methods, name)
+                for kind in (str, int, list, dict, set, bytes, tuple):
+                    self.assertFalse(hasattr(kind, node.attr), (name, node.attr))
+
     def test_methods(self):
         own = [each.name for name, node in nodes() if isinstance(node, ast.ClassDef)
                for each in node.body if isinstance(each, ast.FunctionDef)]
